@@ -1,0 +1,1 @@
+"""Drawings of light signs: the calls stand in drawnglass.desk."""
