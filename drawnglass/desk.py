@@ -1,10 +1,11 @@
-"""The calls: each takes a text and gives back the answer and then the further numbers."""
+"""The calls: each gives back a list, the answer and then the further numbers."""
 
-from drawnglass.drawing import fault_of, joints_of, least_mates, pieces_of, strokes_of
+from drawnglass.drawing import degree, fault_of, joints_of, least_mates, pieces_of, strokes_of
 
 LONGEST_TEXT = 65536
 
 TOO_LONG = -2
+NOT_THERE = -4
 NO_DRAWING = -6
 
 
@@ -18,10 +19,42 @@ def judge(t):
 
 
 def size(t):
-    verdict = judge(t)
-    if verdict[0] != 0:
-        return verdict[:1]
+    refusal = text_refusal(t)
+    if refusal is not None:
+        return refusal
     strokes = strokes_of(t)
     pieces = pieces_of(strokes)
     parts = len(set(least_mates(pieces)))
     return [0, len(strokes), len(pieces), len(joints_of(pieces)), parts]
+
+
+def piece(i, t):
+    refusal = text_refusal(t)
+    if refusal is not None:
+        return refusal
+    pieces = pieces_of(strokes_of(t))
+    if i >= len(pieces):
+        return [NOT_THERE]
+    first = pieces[i][0]
+    second = pieces[i][1]
+    joints = joints_of(pieces)
+    return [0] + list(first) + list(second) + [joints.index(first), joints.index(second)]
+
+
+def joint(j, t):
+    refusal = text_refusal(t)
+    if refusal is not None:
+        return refusal
+    pieces = pieces_of(strokes_of(t))
+    joints = joints_of(pieces)
+    if j >= len(joints):
+        return [NOT_THERE]
+    return [0] + list(joints[j]) + [degree(joints[j], pieces)]
+
+
+# What a call other than judge answers to a text that it refuses, else None.
+def text_refusal(t):
+    verdict = judge(t)
+    if verdict[0] == 0:
+        return None
+    return verdict[:1]

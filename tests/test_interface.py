@@ -10,23 +10,63 @@ import unittest
 
 import drawnglass
 from drawnglass import desk
-from tests.texts import bytes_of, rungs, star, text_of
+from tests.texts import LARGEST_NUMBER, NO_DRAWINGS, TOO_LONG, bytes_of, rungs, star, text_of
 
-CALLS = (desk.judge, desk.size)
+# Each call: its parameters.
+CALLS = {
+    desk.judge: ["t"],
+    desk.size: ["t"],
+    desk.piece: ["i", "t"],
+    desk.joint: ["j", "t"],
+}
 
-TEXTS = (
-    [],
-    bytes_of("sign A\n"),
-    bytes_of("sign A\nstroke 0,0 4096,0\n"),
-    text_of([[(0, 0), (0, 0)]]),
-    text_of([[(0, 0), (4, 4)], [(0, 4), (4, 0)]]),
+HOUSE = text_of([[(0, 0), (4, 0), (4, 4), (0, 4), (0, 0)], [(0, 4), (2, 6), (4, 4)], [(9, 9), (9, 8)]])
+LINE = text_of([[(7, 0), (0, 7)]])
+CROSSED = text_of([[(0, 0), (4, 4)], [(0, 4), (4, 0)]])
+
+# Each row: a call, what it is handed, what it answers.
+ANSWERED = [
+    (desk.judge, [HOUSE], [0]),
+    (desk.judge, [LINE], [0]),
+    (desk.judge, [CROSSED], [-6, 5, 2, 1]),
+    (desk.judge, [TOO_LONG[0]], [-2]),
+    (desk.size, [HOUSE], [0, 3, 7, 7, 2]),
+    (desk.size, [LINE], [0, 1, 1, 2, 1]),
+    (desk.size, [CROSSED], [-6]),
+    (desk.size, [TOO_LONG[0]], [-2]),
+    (desk.piece, [5, HOUSE], [0, 2, 6, 4, 4, 4, 3]),
+    (desk.piece, [0, LINE], [0, 7, 0, 0, 7, 0, 1]),
+    (desk.piece, [5, LINE], [-4]),
+    (desk.piece, [0, CROSSED], [-6]),
+    (desk.piece, [0, TOO_LONG[0]], [-2]),
+    (desk.joint, [3, HOUSE], [0, 4, 4, 3]),
+    (desk.joint, [1, LINE], [0, 0, 7, 1]),
+    (desk.joint, [3, LINE], [-4]),
+    (desk.joint, [0, CROSSED], [-6]),
+    (desk.joint, [0, TOO_LONG[0]], [-2]),
+]
+
+TEXTS = list(NO_DRAWINGS) + list(TOO_LONG) + [HOUSE, LINE, text_of(rungs(64)), text_of(star(8))]
+
+LONG_TEXTS = [
+    text_of([[(x, x % 2) for x in range(65)]]),
     text_of(rungs(64)),
-    text_of(rungs(65)),
-    text_of(star(8)),
-    text_of(star(9)),
+    bytes_of("sign A\nstroke 1,1 0," + "9" * 65000 + "\n"),
+    bytes_of("sign A\nstroke" + " 1,1" * 16000 + "\n"),
     [10] * 65536,
-    [10] * 65537,
-)
+    [32] * 65536,
+]
+
+NUMBERS = [[0, 0, 5, 0, 0, 1, 5, 1], [1, 7, 2, 7, 1, 7, 2, 7], [LARGEST_NUMBER] * 8]
+
+
+# All ways to call every call with one of these texts.
+def calls_with(texts):
+    for call, names in CALLS.items():
+        many = len([name for name in names if name != "t"])
+        for numbers in NUMBERS if many > 0 else NUMBERS[:1]:
+            for text in texts if "t" in names else [None]:
+                yield call, numbers[:many] + ([text] if "t" in names else [])
 
 
 # A list that can be read but fails on every change, even one that's taken back again.
@@ -49,67 +89,72 @@ def depth():
 
 class Interface(unittest.TestCase):
     def test_arguments(self):
-        for call in CALLS:
-            self.assertEqual(list(inspect.signature(call).parameters), ["t"])
+        for call, names in CALLS.items():
+            self.assertEqual(list(inspect.signature(call).parameters), names)
+
+    def test_every_call_is_handed_something_here(self):
+        self.assertEqual({call for call, handed, answer in ANSWERED}, set(CALLS))
 
     def test_what_is_given_back(self):
-        for call in CALLS:
-            for text in TEXTS:
-                answer = call(text)
-                self.assertIs(type(answer), list)
-                self.assertTrue(all(type(number) is int for number in answer))
-                lengths = {0: 1, -6: 4, -2: 1} if call is desk.judge else {0: 5, -6: 1, -2: 1}
-                self.assertEqual(len(answer), lengths[answer[0]])
+        for call, handed in calls_with(TEXTS):
+            answer = call(*handed)
+            self.assertIs(type(answer), list)
+            self.assertTrue(all(type(number) is int for number in answer))
+            if answer[0] < 0:
+                self.assertEqual(len(answer), 4 if call is desk.judge and answer[0] == -6 else 1)
+
+    def test_how_many_numbers_are_given_back(self):
+        lengths = {desk.judge: 1, desk.size: 5, desk.piece: 7, desk.joint: 4}
+        for call, handed in calls_with([HOUSE, LINE, text_of(rungs(64)), text_of(star(8))]):
+            answer = call(*handed)
+            if call in lengths and answer[0] >= 0:
+                self.assertEqual(len(answer), lengths[call])
 
     def test_what_is_handed_in_is_not_changed(self):
-        for call in CALLS:
-            for text in TEXTS:
-                handed = list(text)
-                call(handed)
-                self.assertEqual(handed, text)
-                self.assertEqual(call(Untouchable(text)), call(text))
+        for call, handed in calls_with(TEXTS):
+            copies = [list(given) if isinstance(given, list) else given for given in handed]
+            guarded = [Untouchable(given) if isinstance(given, list) else given for given in handed]
+            answer = call(*copies)
+            self.assertEqual(copies, handed)
+            self.assertEqual(call(*guarded), answer)
 
     def test_nothing_is_kept(self):
-        for call in CALLS:
-            alone = [call(text) for text in TEXTS]
-            for first, answer in zip(TEXTS, alone):
-                for second, other in zip(TEXTS, alone):
-                    self.assertEqual(call(first), answer)
-                    self.assertEqual(call(second), other)
+        for first, handed_first, answer in ANSWERED:
+            for second, handed_second, other in ANSWERED:
+                self.assertEqual(first(*handed_first), answer)
+                self.assertEqual(second(*handed_second), other)
+
+    def test_a_list_that_is_changed_between_two_calls_is_read_anew(self):
+        for call, handed in calls_with([HOUSE]):
+            if "t" in CALLS[call]:
+                text = list(HOUSE)
+                self.assertEqual(call(*handed[:-1], text), call(*handed))
+                text[:] = LINE
+                self.assertEqual(call(*handed[:-1], text), call(*handed[:-1], LINE))
 
     def test_a_changed_answer_changes_no_later_one(self):
-        for call in CALLS:
-            for text in TEXTS:
-                wanted = list(call(text))
-                answer = call(text)
-                answer.append(7)
-                answer[0] = 99
-                self.assertEqual(call(text), wanted)
+        for call, handed, wanted in ANSWERED:
+            answer = call(*handed)
+            answer.append(7)
+            answer[0] = 99
+            self.assertEqual(call(*handed), wanted)
 
     def test_nothing_is_printed(self):
         out, err = io.StringIO(), io.StringIO()
         with contextlib.redirect_stdout(out), contextlib.redirect_stderr(err):
-            for call in CALLS:
-                for text in TEXTS:
-                    call(text)
+            for call, handed in calls_with(TEXTS):
+                call(*handed)
         self.assertEqual((out.getvalue(), err.getvalue()), ("", ""))
 
     def test_calls_are_not_nested_deep(self):
-        long = [
-            text_of([[(x, x % 2) for x in range(65)]]),
-            text_of(rungs(64)),
-            bytes_of("sign A\nstroke 1,1 0," + "9" * 65000 + "\n"),
-            bytes_of("sign A\nstroke" + " 1,1" * 16000 + "\n"),
-            [10] * 65536,
-            [32] * 65536,
-        ]
+        ways = list(calls_with(LONG_TEXTS))
         limit = sys.getrecursionlimit()
         sys.setrecursionlimit(depth() + 30)
         try:
-            answers = [call(text) for call in CALLS for text in long]
+            answers = [call(*handed) for call, handed in ways]
         finally:
             sys.setrecursionlimit(limit)
-        self.assertEqual(len(answers), 12)
+        self.assertEqual(len(answers), len(ways))
 
 
 class Package(unittest.TestCase):

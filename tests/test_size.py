@@ -4,7 +4,7 @@ import unittest
 
 from drawnglass.desk import judge, size
 from drawnglass.drawing import degree, joints_of, least_mates, pieces_of
-from tests.texts import bytes_of, meet_badly_by_definition, rungs, star, text_of
+from tests.texts import bytes_of, grown_drawing, rungs, star, text_of
 
 SQUARE = [(0, 0), (9, 0), (9, 9), (0, 9), (0, 0)]
 
@@ -49,24 +49,6 @@ def parts_by_walking(pieces):
             for piece in near:
                 reached |= set(piece)
     return parts
-
-
-# Drawings got by trying pieces one after another and keeping those that fit, from a fixed row of numbers.
-def grown_drawing(seed, grid, most):
-    strokes = []
-    number = seed
-    for step in range(400):
-        row = []
-        for place in range(4):
-            number = (number * 1103515245 + 12345) % 2**31
-            row.append((number >> 12) % grid)
-        piece = [(row[0], row[1]), (row[2], row[3])]
-        if piece[0] == piece[1] or len(strokes) == most:
-            continue
-        crowded = any(sum(point in other for other in strokes) == 8 for point in piece)
-        if not crowded and not any(meet_badly_by_definition(piece, other) for other in strokes):
-            strokes.append(piece)
-    return strokes
 
 
 class Sizes(unittest.TestCase):

@@ -65,3 +65,69 @@ def meet_badly_by_definition(one, other):
     if span is None:
         return False
     return span[0] != span[1] or not (span[0] in one and span[0] in other)
+
+
+# Drawings got by trying pieces one after another and keeping those that fit, from a fixed row of numbers.
+# Chained: every other piece begins where the last stroke ends, if it fits there, and is of that stroke.
+def grown_drawing(seed, grid, most, chained=False):
+    strokes = []
+    pieces = []
+    number = seed
+    for step in range(400):
+        row = []
+        for place in range(4):
+            number = (number * 1103515245 + 12345) % 2**31
+            row.append((number >> 12) % grid)
+        goes_on = chained and step % 2 == 1 and len(strokes) > 0
+        piece = (strokes[-1][-1] if goes_on else (row[0], row[1]), (row[2], row[3]))
+        if piece[0] == piece[1] or len(pieces) == most:
+            continue
+        crowded = any(sum(point in other for other in pieces) == 8 for point in piece)
+        if crowded or any(meet_badly_by_definition(piece, other) for other in pieces):
+            continue
+        pieces.append(piece)
+        if goes_on:
+            strokes[-1].append(piece[1])
+        else:
+            strokes.append(list(piece))
+    return strokes
+
+
+# The pieces of strokes, as the document numbers them.
+def pieces_by_hand(strokes):
+    return [(points[k], points[k + 1]) for points in strokes for k in range(len(points) - 1)]
+
+
+# Drawings of many kinds, for what must hold in each.
+MANY_DRAWINGS = [grown_drawing(seed, (5, 12, 60, 4096)[seed % 4], 24, chained=seed % 3 > 0) for seed in range(16)] + [
+    [[(0, 0), (1, 0)]],
+    [[(0, 0), (9, 0), (9, 9), (0, 9), (0, 0)]],
+    [[(4095, 4095), (0, 4095), (0, 0), (4095, 0)]],
+    [[(x, x % 2) for x in range(65)]],
+    star(8),
+    star(8) + star(7, (200, 100)),
+]
+
+
+# Texts that are no drawing's, of each kind of fault.
+NO_DRAWINGS = (
+    [],
+    bytes_of("sign A\n"),
+    bytes_of("sign A\nstroke 0,0 1,0"),
+    bytes_of("sign A\nstroke 0,0 1,0\nx"),
+    bytes_of("sign A\nstroke 0,0 4096,0\n"),
+    text_of([[(0, 0), (0, 0)]]),
+    text_of(rungs(65)),
+    text_of([[(0, 0), (4, 4)], [(0, 4), (4, 0)]]),
+    text_of(star(9)),
+    [10] * 65536,
+)
+
+# Texts of more than 65,536 bytes: no more than a drawing with lines behind it, and no drawing at all.
+TOO_LONG = (
+    (text_of([[(0, 0), (1, 0)]]) + [10] * 65600)[:65537],
+    [255] * 65537,
+    [10] * 65600,
+)
+
+LARGEST_NUMBER = 4294967295
