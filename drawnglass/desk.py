@@ -1,6 +1,6 @@
 """The calls: each gives back a list, the answer and then the further numbers."""
 
-from drawnglass.drawing import degree, fault_of, joints_of, least_mates, pieces_of, strokes_of
+from drawnglass.drawing import degree, ending_at, fault_of, joints_of, least_mates, pieces_of, strokes_of
 
 LONGEST_TEXT = 65536
 
@@ -50,6 +50,30 @@ def joint(j, t):
     if j >= len(joints):
         return [NOT_THERE]
     return [0] + list(joints[j]) + [degree(joints[j], pieces)]
+
+
+def ends(j, t):
+    refusal = text_refusal(t)
+    if refusal is not None:
+        return refusal
+    pieces = pieces_of(strokes_of(t))
+    joints = joints_of(pieces)
+    if j >= len(joints):
+        return [NOT_THERE]
+    ending = ending_at(joints[j], pieces)
+    return [len(ending)] + ending
+
+
+def part(i, t):
+    refusal = text_refusal(t)
+    if refusal is not None:
+        return refusal
+    pieces = pieces_of(strokes_of(t))
+    if i >= len(pieces):
+        return [NOT_THERE]
+    least = least_mates(pieces)
+    number = sorted(set(least)).index(least[i])
+    return [number] + [k for k in range(len(pieces)) if least[k] == least[i]]
 
 
 # What a call other than judge answers to a text that it refuses, else None.

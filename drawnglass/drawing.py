@@ -212,7 +212,12 @@ def is_one_too_many(piece, others):
 
 
 def degree(point, pieces):
-    return len([piece for piece in pieces if point in piece])
+    return len(ending_at(point, pieces))
+
+
+# The numbers of the pieces that end at the point, rising.
+def ending_at(point, pieces):
+    return [number for number, piece in enumerate(pieces) if point in piece]
 
 
 def joints_of(pieces):

@@ -18,6 +18,8 @@ CALLS = {
     desk.size: ["t"],
     desk.piece: ["i", "t"],
     desk.joint: ["j", "t"],
+    desk.ends: ["j", "t"],
+    desk.part: ["i", "t"],
 }
 
 HOUSE = text_of([[(0, 0), (4, 0), (4, 4), (0, 4), (0, 0)], [(0, 4), (2, 6), (4, 4)], [(9, 9), (9, 8)]])
@@ -44,6 +46,17 @@ ANSWERED = [
     (desk.joint, [3, LINE], [-4]),
     (desk.joint, [0, CROSSED], [-6]),
     (desk.joint, [0, TOO_LONG[0]], [-2]),
+    (desk.ends, [3, HOUSE], [3, 1, 2, 5]),
+    (desk.ends, [1, LINE], [1, 0]),
+    (desk.ends, [3, LINE], [-4]),
+    (desk.ends, [0, CROSSED], [-6]),
+    (desk.ends, [0, TOO_LONG[0]], [-2]),
+    (desk.part, [5, HOUSE], [0, 0, 1, 2, 3, 4, 5]),
+    (desk.part, [6, HOUSE], [1, 6]),
+    (desk.part, [0, LINE], [0, 0]),
+    (desk.part, [6, LINE], [-4]),
+    (desk.part, [0, CROSSED], [-6]),
+    (desk.part, [0, TOO_LONG[0]], [-2]),
 ]
 
 TEXTS = list(NO_DRAWINGS) + list(TOO_LONG) + [HOUSE, LINE, text_of(rungs(64)), text_of(star(8))]

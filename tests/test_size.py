@@ -4,7 +4,7 @@ import unittest
 
 from drawnglass.desk import judge, size
 from drawnglass.drawing import degree, joints_of, least_mates, pieces_of
-from tests.texts import bytes_of, grown_drawing, rungs, star, text_of
+from tests.texts import bytes_of, grown_drawing, parts_by_walking, rungs, star, text_of
 
 SQUARE = [(0, 0), (9, 0), (9, 9), (0, 9), (0, 0)]
 
@@ -34,23 +34,6 @@ LATE = (
 )
 
 
-# How many parts there are, by walking from joint to joint.
-def parts_by_walking(pieces):
-    left = list(pieces)
-    parts = 0
-    while left:
-        parts += 1
-        reached = set(left.pop())
-        grown = True
-        while grown:
-            near = [piece for piece in left if reached & set(piece)]
-            left = [piece for piece in left if piece not in near]
-            grown = bool(near)
-            for piece in near:
-                reached |= set(piece)
-    return parts
-
-
 class Sizes(unittest.TestCase):
     def test_drawings(self):
         for strokes, wanted in DRAWINGS:
@@ -74,7 +57,7 @@ class Sizes(unittest.TestCase):
         for seed in range(40):
             strokes = grown_drawing(seed, (5, 12, 60, 4096)[seed % 4], 64)
             joints = {point for piece in strokes for point in piece}
-            wanted = [0, len(strokes), len(strokes), len(joints), parts_by_walking([tuple(p) for p in strokes])]
+            wanted = [0, len(strokes), len(strokes), len(joints), len(parts_by_walking(strokes))]
             self.assertEqual(judge(text_of(strokes)), [0])
             self.assertEqual(size(text_of(strokes)), wanted, seed)
 

@@ -98,6 +98,20 @@ def pieces_by_hand(strokes):
     return [(points[k], points[k + 1]) for points in strokes for k in range(len(points) - 1)]
 
 
+# The parts by walking from a piece to all that share an end with one reached: sets of pieces' numbers.
+def parts_by_walking(pieces):
+    left = list(range(len(pieces)))
+    parts = []
+    while left:
+        reached = [left.pop(0)]
+        for k in reached:
+            near = [other for other in left if set(pieces[other]) & set(pieces[k])]
+            left = [other for other in left if other not in near]
+            reached.extend(near)
+        parts.append(sorted(reached))
+    return parts
+
+
 # Drawings of many kinds, for what must hold in each.
 MANY_DRAWINGS = [grown_drawing(seed, (5, 12, 60, 4096)[seed % 4], 24, chained=seed % 3 > 0) for seed in range(16)] + [
     [[(0, 0), (1, 0)]],
