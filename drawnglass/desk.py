@@ -1,11 +1,14 @@
 """The calls: each gives back a list, the answer and then the further numbers."""
 
 from drawnglass.drawing import degree, ending_at, fault_of, joints_of, least_mates, pieces_of, strokes_of
+from drawnglass.drawing import first_true, fits, is_piece, is_point, lies_on
 
 LONGEST_TEXT = 65536
 
+WRONG_POINT = -1
 TOO_LONG = -2
 NOT_THERE = -4
+NONE_LIES_THERE = -5
 NO_DRAWING = -6
 
 
@@ -72,8 +75,33 @@ def part(i, t):
     if i >= len(pieces):
         return [NOT_THERE]
     least = least_mates(pieces)
-    number = sorted(set(least)).index(least[i])
-    return [number] + [k for k in range(len(pieces)) if least[k] == least[i]]
+    parts = sorted(set(least))
+    return [parts.index(least[i])] + [k for k in range(len(pieces)) if least[k] == least[i]]
+
+
+def at(x, y, t):
+    refusal = text_refusal(t)
+    if refusal is not None:
+        return refusal
+    if not is_point((x, y)):
+        return [WRONG_POINT]
+    pieces = pieces_of(strokes_of(t))
+    number = first_true([lies_on((x, y), one) for one in pieces])
+    if number is None:
+        return [NONE_LIES_THERE]
+    return [number]
+
+
+def free(x, y, z, w, t):
+    refusal = text_refusal(t)
+    if refusal is not None:
+        return refusal
+    added = ((x, y), (z, w))
+    if not is_piece(added):
+        return [WRONG_POINT]
+    if fits(added, pieces_of(strokes_of(t))):
+        return [1]
+    return [0]
 
 
 # What a call other than judge answers to a text that it refuses, else None.

@@ -126,7 +126,7 @@ def coordinate_of(digits):
 # What is wrong with a stroke behind the pieces before it, as (kind, which), or None.
 # A kind is asked for only when those ahead of it are not there: the order is the document's.
 def stroke_fault(points, before):
-    which = first_true([max(point) > LARGEST_COORDINATE for point in points])
+    which = first_true([not is_point(point) for point in points])
     if which is not None:
         return (COORDINATE_TOO_LARGE, which)
     which = first_true([one == other for one, other in stroke_pieces(points)])
@@ -152,6 +152,16 @@ def first_true(answers):
     return None
 
 
+# Whether a pair of numbers from 0 on is a point.
+def is_point(pair):
+    return max(pair) <= LARGEST_COORDINATE
+
+
+# Whether two pairs of numbers from 0 on are the ends of a piece.
+def is_piece(pairs):
+    return is_point(pairs[0]) and is_point(pairs[1]) and pairs[0] != pairs[1]
+
+
 def stroke_pieces(points):
     return list(zip(points, points[1:]))
 
@@ -161,6 +171,11 @@ def pieces_of(strokes):
     for points in strokes:
         pieces.extend(stroke_pieces(points))
     return pieces
+
+
+# Whether a drawing of the others may have the piece too, but for how many there are.
+def fits(piece, others):
+    return not meets_one_badly(piece, others) and not is_one_too_many(piece, others)
 
 
 def meets_one_badly(piece, others):

@@ -20,6 +20,8 @@ CALLS = {
     desk.joint: ["j", "t"],
     desk.ends: ["j", "t"],
     desk.part: ["i", "t"],
+    desk.at: ["x", "y", "t"],
+    desk.free: ["x", "y", "z", "w", "t"],
 }
 
 HOUSE = text_of([[(0, 0), (4, 0), (4, 4), (0, 4), (0, 0)], [(0, 4), (2, 6), (4, 4)], [(9, 9), (9, 8)]])
@@ -57,6 +59,21 @@ ANSWERED = [
     (desk.part, [6, LINE], [-4]),
     (desk.part, [0, CROSSED], [-6]),
     (desk.part, [0, TOO_LONG[0]], [-2]),
+    (desk.at, [4, 4, HOUSE], [1]),
+    (desk.at, [3, 5, HOUSE], [5]),
+    (desk.at, [3, 4, LINE], [0]),
+    (desk.at, [4, 4, LINE], [-5]),
+    (desk.at, [4, 4096, LINE], [-1]),
+    (desk.at, [4, 4, CROSSED], [-6]),
+    (desk.at, [4, 4, TOO_LONG[0]], [-2]),
+    (desk.free, [4, 4, 9, 9, HOUSE], [1]),
+    (desk.free, [4, 4, 0, 0, HOUSE], [1]),
+    (desk.free, [0, 3, 9, 9, HOUSE], [0]),
+    (desk.free, [0, 3, 9, 9, LINE], [0]),
+    (desk.free, [0, 8, 9, 9, LINE], [1]),
+    (desk.free, [9, 9, 9, 9, LINE], [-1]),
+    (desk.free, [0, 3, 9, 9, CROSSED], [-6]),
+    (desk.free, [0, 3, 9, 9, TOO_LONG[0]], [-2]),
 ]
 
 TEXTS = list(NO_DRAWINGS) + list(TOO_LONG) + [HOUSE, LINE, text_of(rungs(64)), text_of(star(8))]
@@ -117,7 +134,7 @@ class Interface(unittest.TestCase):
                 self.assertEqual(len(answer), 4 if call is desk.judge and answer[0] == -6 else 1)
 
     def test_how_many_numbers_are_given_back(self):
-        lengths = {desk.judge: 1, desk.size: 5, desk.piece: 7, desk.joint: 4}
+        lengths = {desk.judge: 1, desk.size: 5, desk.piece: 7, desk.joint: 4, desk.at: 1, desk.free: 1}
         for call, handed in calls_with([HOUSE, LINE, text_of(rungs(64)), text_of(star(8))]):
             answer = call(*handed)
             if call in lengths and answer[0] >= 0:
