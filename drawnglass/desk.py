@@ -1,7 +1,7 @@
 """The calls: each gives back a list, the answer and then the further numbers."""
 
 from drawnglass.drawing import degree, ending_at, fault_of, joints_of, least_mates, pieces_of, strokes_of
-from drawnglass.drawing import first_true, fits, is_piece, is_point, lies_on
+from drawnglass.drawing import first_true, fits, is_piece, is_point, lies_on, meets_badly, shares_end
 
 LONGEST_TEXT = 65536
 
@@ -10,6 +10,11 @@ TOO_LONG = -2
 NOT_THERE = -4
 NONE_LIES_THERE = -5
 NO_DRAWING = -6
+
+APART = 0
+AT_ENDS_ALONE = 1
+BADLY = 2
+NO_PIECES = 3
 
 
 def judge(t):
@@ -102,6 +107,18 @@ def free(x, y, z, w, t):
     if fits(added, pieces_of(strokes_of(t))):
         return [1]
     return [0]
+
+
+def cross(x, y, z, w, p, q, r, s):
+    one = ((x, y), (z, w))
+    other = ((p, q), (r, s))
+    if not is_piece(one) or not is_piece(other):
+        return [NO_PIECES]
+    if meets_badly(one, other):
+        return [BADLY]
+    if shares_end(one, other):
+        return [AT_ENDS_ALONE]
+    return [APART]
 
 
 # What a call other than judge answers to a text that it refuses, else None.

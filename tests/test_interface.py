@@ -22,6 +22,7 @@ CALLS = {
     desk.part: ["i", "t"],
     desk.at: ["x", "y", "t"],
     desk.free: ["x", "y", "z", "w", "t"],
+    desk.cross: ["x", "y", "z", "w", "p", "q", "r", "s"],
 }
 
 HOUSE = text_of([[(0, 0), (4, 0), (4, 4), (0, 4), (0, 0)], [(0, 4), (2, 6), (4, 4)], [(9, 9), (9, 8)]])
@@ -74,6 +75,10 @@ ANSWERED = [
     (desk.free, [9, 9, 9, 9, LINE], [-1]),
     (desk.free, [0, 3, 9, 9, CROSSED], [-6]),
     (desk.free, [0, 3, 9, 9, TOO_LONG[0]], [-2]),
+    (desk.cross, [0, 0, 4, 0, 0, 4, 4, 4], [0]),
+    (desk.cross, [0, 0, 4, 0, 4, 0, 4, 4], [1]),
+    (desk.cross, [0, 0, 4, 4, 0, 4, 4, 0], [2]),
+    (desk.cross, [0, 0, 4, 4, 0, 4, 0, 4], [3]),
 ]
 
 TEXTS = list(NO_DRAWINGS) + list(TOO_LONG) + [HOUSE, LINE, text_of(rungs(64)), text_of(star(8))]
@@ -134,7 +139,7 @@ class Interface(unittest.TestCase):
                 self.assertEqual(len(answer), 4 if call is desk.judge and answer[0] == -6 else 1)
 
     def test_how_many_numbers_are_given_back(self):
-        lengths = {desk.judge: 1, desk.size: 5, desk.piece: 7, desk.joint: 4, desk.at: 1, desk.free: 1}
+        lengths = {desk.judge: 1, desk.size: 5, desk.piece: 7, desk.joint: 4, desk.at: 1, desk.free: 1, desk.cross: 1}
         for call, handed in calls_with([HOUSE, LINE, text_of(rungs(64)), text_of(star(8))]):
             answer = call(*handed)
             if call in lengths and answer[0] >= 0:
